@@ -1,0 +1,53 @@
+package tests
+
+import (
+	"bytes"
+	"testing"
+)
+
+// guard is a list of bytes as an argument: what stands ahead of it and behind it in the same memory is watched, too.
+type guard struct {
+	whole []byte
+	was   []byte
+	size  int
+}
+
+const guardRim = 16
+
+func newGuard(data []byte) *guard {
+	whole := make([]byte, len(data)+2*guardRim)
+	for i := range whole {
+		whole[i] = byte(0xA0 + i)
+	}
+	copy(whole[guardRim:], data)
+	return &guard{whole: whole, was: bytes.Clone(whole), size: len(data)}
+}
+
+// list has room behind its end, so an append to it would write into the watched memory.
+func (g *guard) list() []byte {
+	return g.whole[guardRim : guardRim+g.size]
+}
+
+func (g *guard) mustBeSame(t *testing.T, name string) {
+	t.Helper()
+	if !bytes.Equal(g.whole, g.was) {
+		t.Errorf("%s: an argument was changed, or shares memory with what was answered", name)
+	}
+}
+
+// overwrite changes all that can be reached from a list, also what is behind its end.
+func overwrite(data []byte) {
+	data = data[:cap(data)]
+	for i := range data {
+		data[i] ^= 0xFF
+	}
+}
+
+// countedBytes makes n bytes that differ from their neighbours, and for each seed others.
+func countedBytes(n int, seed byte) []byte {
+	data := make([]byte, n)
+	for i := range data {
+		data[i] = byte(i)*37 + seed
+	}
+	return data
+}
