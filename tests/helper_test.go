@@ -1,42 +1,42 @@
 package tests
 
 import (
-	"bytes"
+	"slices"
 	"testing"
 )
 
-// guard is a list of bytes as an argument: what stands ahead of it and behind it in the same memory is watched, too.
-type guard struct {
-	whole []byte
-	was   []byte
+// guard is a list as an argument: what stands ahead of it and behind it in the same memory is watched, too.
+type guard[T byte | int64] struct {
+	whole []T
+	was   []T
 	size  int
 }
 
 const guardRim = 16
 
-func newGuard(data []byte) *guard {
-	whole := make([]byte, len(data)+2*guardRim)
+func newGuard[T byte | int64](data []T) *guard[T] {
+	whole := make([]T, len(data)+2*guardRim)
 	for i := range whole {
-		whole[i] = byte(0xA0 + i)
+		whole[i] = T(0xA0 + i)
 	}
 	copy(whole[guardRim:], data)
-	return &guard{whole: whole, was: bytes.Clone(whole), size: len(data)}
+	return &guard[T]{whole: whole, was: slices.Clone(whole), size: len(data)}
 }
 
 // list has room behind its end, so an append to it would write into the watched memory.
-func (g *guard) list() []byte {
+func (g *guard[T]) list() []T {
 	return g.whole[guardRim : guardRim+g.size]
 }
 
-func (g *guard) mustBeSame(t *testing.T, name string) {
+func (g *guard[T]) mustBeSame(t *testing.T, name string) {
 	t.Helper()
-	if !bytes.Equal(g.whole, g.was) {
+	if !slices.Equal(g.whole, g.was) {
 		t.Errorf("%s: an argument was changed, or shares memory with what was answered", name)
 	}
 }
 
 // overwrite changes all that can be reached from a list, also what is behind its end.
-func overwrite(data []byte) {
+func overwrite[T byte | int64](data []T) {
 	data = data[:cap(data)]
 	for i := range data {
 		data[i] ^= 0xFF
