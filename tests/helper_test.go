@@ -1,8 +1,11 @@
 package tests
 
 import (
+	"reflect"
 	"slices"
 	"testing"
+
+	"loop.example/g00799/impl"
 )
 
 // guard is a list as an argument: what stands ahead of it and behind it in the same memory is watched, too.
@@ -40,6 +43,58 @@ func overwrite[T byte | int64](data []T) {
 	data = data[:cap(data)]
 	for i := range data {
 		data[i] ^= 0xFF
+	}
+}
+
+// itemsGuard is a list of items as an argument: the list and the bytes of each item are watched, and what stands about them in the same memory.
+type itemsGuard struct {
+	whole []impl.Item
+	was   []impl.Item
+	bytes []*guard[byte]
+	size  int
+}
+
+func newItemsGuard(items []impl.Item) *itemsGuard {
+	g := &itemsGuard{whole: make([]impl.Item, len(items)+2*guardRim), size: len(items)}
+	for i := range g.whole {
+		g.whole[i].Kind = int64(0xA0 + i)
+	}
+	for i, x := range items {
+		data := newGuard(x.Bytes)
+		x.Bytes = data.list()
+		g.whole[guardRim+i] = x
+		g.bytes = append(g.bytes, data)
+	}
+	g.was = cloneItems(g.whole)
+	return g
+}
+
+func (g *itemsGuard) list() []impl.Item {
+	return g.whole[guardRim : guardRim+g.size]
+}
+
+func (g *itemsGuard) mustBeSame(t *testing.T, name string) {
+	t.Helper()
+	for _, data := range g.bytes {
+		data.mustBeSame(t, name)
+	}
+	if !reflect.DeepEqual(g.whole, g.was) {
+		t.Errorf("%s: a list of items was changed, or shares memory with what was answered", name)
+	}
+}
+
+func overwriteItems(items []impl.Item) {
+	items = items[:cap(items)]
+	for i := range items {
+		overwrite(items[i].Bytes)
+		items[i] = impl.Item{Kind: ^items[i].Kind, Cols: ^items[i].Cols, Rows: ^items[i].Rows}
+	}
+}
+
+func overwriteAtoms(atoms []impl.Atom) {
+	atoms = atoms[:cap(atoms)]
+	for i, a := range atoms {
+		atoms[i] = impl.Atom{Kind: ^a.Kind, A: ^a.A, B: ^a.B}
 	}
 }
 
